@@ -1,0 +1,1 @@
+"""Aheadbehind: boxes that may stand for others."""

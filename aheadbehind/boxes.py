@@ -71,9 +71,7 @@ class Box:
 
     def reachable(self):
         """The sorted list of the states to which steps, perhaps none, lead from a start."""
-        ends = {}
-        for step in self._steps:
-            ends.setdefault(step[0], []).append(step[3])
+        ends = ends_of(self._steps)
         found = {start: True for start in self._starts}
         waiting = list(self._starts)
         while waiting:
@@ -192,6 +190,14 @@ def is_order(states, value):
     if not is_list(value) or len(value) != states:
         return False
     return first_wrong(value, [is_state(states, state) for state in value]) is None
+
+
+def ends_of(steps):
+    """The dict from the states to the lists of the states to which steps lead from there."""
+    ends = {}
+    for step in steps:
+        ends.setdefault(step[0], []).append(step[3])
+    return ends
 
 
 def made_box(states, starts, steps):

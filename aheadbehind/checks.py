@@ -1,7 +1,11 @@
 """Checks of what is passed, for parameters that several functions have."""
 
-from aheadbehind.basics import is_list, is_sign, is_state
-from aheadbehind.errors import InvalidRow, InvalidState
+from aheadbehind.basics import is_integer, is_list, is_sign, is_state
+from aheadbehind.errors import InvalidKind, InvalidNumber, InvalidRow, InvalidSet, InvalidState, TooMany
+
+REMEMBERING = "remembering"
+GUESSING = "guessing"
+MOST_LIMITED = 7
 
 
 def first_wrong(values, right):
@@ -30,3 +34,37 @@ def check_state(states, state):
     """Raise InvalidState unless state is one of a box with so many states."""
     if not is_state(states, state):
         raise InvalidState(state)
+
+
+def check_some(states, some):
+    """Raise InvalidSet unless some is a list of unlike states of a box with so many."""
+    if not is_list(some) or first_wrong(some, [is_state(states, state) for state in some]) is not None:
+        raise InvalidSet(some)
+
+
+def check_kind(kind):
+    """Raise InvalidKind unless kind is one of the two words."""
+    if not isinstance(kind, str) or kind not in (REMEMBERING, GUESSING):
+        raise InvalidKind(kind)
+
+
+def check_number(number, least, most):
+    """Raise InvalidNumber unless number is an integer from the least to the most one."""
+    if not is_integer(number) or not least <= number <= most:
+        raise InvalidNumber(number)
+
+
+def check_few_states(box, most):
+    """Raise TooMany if the box has more than so many states."""
+    if box.states > most:
+        raise TooMany("states", most)
+
+
+def check_limited(box):
+    """Raise TooMany if the box has more states than one whose sets of states are needed."""
+    check_few_states(box, MOST_LIMITED)
+
+
+def is_like(first, second):
+    """Whether both are of the same class; if so, whether both are of equal boxes: one and other."""
+    return type(first) is type(second) and first.one == second.one and first.other == second.other

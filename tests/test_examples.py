@@ -3,6 +3,9 @@
 import doctest
 import unittest
 
+from aheadbehind.boxes import Box
+from aheadbehind.matchings import Matching
+
 STAGE_1 = '''
 >>> from aheadbehind.boxes import Box
 >>> late = Box(3, [0], [(0, "flip", "ok", 1), (1, "look", "tail", 2), (1, "look", "head", 2)])
@@ -13,15 +16,53 @@ STAGE_1 = '''
 [Box(3, [0], [(0, 'flip', 'ok', 1), (1, 'look', 'head', 2)]), Box(2, [0], [(0, 'look', 'tail', 1)])]
 '''
 
+STAGE_2 = '''
+>>> from aheadbehind.rows import ahead, behind, next_signs, row_count, row_to, rows
+>>> [behind(early, [("flip", "ok")]), ahead(early, [("look", "tail")]), row_to(early, 3), row_count(late, 2)]
+[[1, 2], [2], [('flip', 'ok'), ('look', 'head')], 2]
+>>> list(zip(range(3), rows(early)))
+[(0, []), (1, [('flip', 'ok')]), (2, [('flip', 'ok'), ('look', 'head')])]
+>>> next_signs(early, [("flip", "ok")])
+[('look', 'head'), ('look', 'tail')]
+'''
+
+STAGE_3 = '''
+>>> from aheadbehind.forms import form, sets_box
+>>> from aheadbehind.standing import are_alike, missing_row, stands_for
+>>> [stands_for(late, early), are_alike(late, early), missing_row(early, late - (1, "look", "tail", 2)), form(early) == late]
+[True, True, [('flip', 'ok'), ('look', 'tail')], True]
+>>> sets_box(early)
+(Box(3, [0], [(0, 'flip', 'ok', 1), (1, 'look', 'head', 2), (1, 'look', 'tail', 2)]), [(0,), (1, 2), (3,)])
+'''
+
+STAGE_4 = '''
+>>> from aheadbehind.matchings import Backward, Forward, are_forward_falls, forward_kept
+>>> [Backward.greatest(late, early), Forward.greatest(early, late).partners(1)]
+[Backward([(0, 0), (1, 1), (1, 2), (2, 3)]), [1]]
+>>> forward_kept(late, early)
+[(2, 0), (2, 1), (2, 2), (2, 3)]
+>>> look = [(1, 1, (1, "look", "tail", 2)), (1, 2, (1, "look", "head", 2)), (0, 0, (0, "flip", "ok", 1))]
+>>> [are_forward_falls(late, early, look), are_forward_falls(late, early, look[1:])]
+[True, False]
+'''
+
+STAGES = [(STAGE_1, 5), (STAGE_2, 4), (STAGE_3, 4), (STAGE_4, 5)]
+
 
 class TestExamples(unittest.TestCase):
     def test_examples(self):
-        examples = doctest.DocTestParser().get_doctest(STAGE_1, {}, "stage 1", None, 0)
-        said = []
-        results = doctest.DocTestRunner(verbose=False).run(examples, out=said.append)
-        self.assertEqual(results.failed, 0, "".join(said))
-        self.assertEqual(results.attempted, 5)
+        names = {}
+        for number, (stage, count) in enumerate(STAGES, 1):
+            with self.subTest(stage=number):
+                examples = doctest.DocTestParser().get_doctest(stage, {}, f"stage {number}", None, 0)
+                # The names of a stage are used by the stages behind it.
+                examples.globs = names
+                said = []
+                results = doctest.DocTestRunner(verbose=False).run(examples, out=said.append, clear_globs=False)
+                self.assertEqual(results.failed, 0, "".join(said))
+                self.assertEqual(results.attempted, count)
 
-    def test_the_repr_of_the_interface(self):
-        from aheadbehind.boxes import Box
+    def test_reprs_of_the_interface(self):
+        box = Box(1, [0])
         self.assertEqual(repr(Box(2, [0], [(0, "go", "ok", 1)])), "Box(2, [0], [(0, 'go', 'ok', 1)])")
+        self.assertEqual(repr(Matching(box, box, [(0, 0)])), "Matching([(0, 0)])")

@@ -1,6 +1,7 @@
 """The files of the package: their sizes, signs, imports and places."""
 
 import ast
+import builtins
 import os
 import unittest
 
@@ -18,6 +19,33 @@ def files():
             with open(os.path.join(FOLDER, name), encoding="utf-8") as held:
                 rows.append((name, held.read()))
     return rows
+
+
+def own_names(tree):
+    """The names that a file itself gives to functions, classes and values at its top."""
+    names = {item.name for item in tree.body if isinstance(item, (ast.FunctionDef, ast.ClassDef))}
+    return names | {item.targets[0].id for item in tree.body if isinstance(item, ast.Assign)}
+
+
+def imported_names(tree):
+    """The dict from the names that a file imports to the files that they come from."""
+    return {alias.name: node.module.split(".")[-1] + ".py" for node in tree.body if isinstance(node, ast.ImportFrom)
+            for alias in node.names}
+
+
+def inner_names(tree):
+    """The parameters and the local variables of all functions, and the functions in functions."""
+    names = []
+    for function in ast.walk(tree):
+        if isinstance(function, (ast.FunctionDef, ast.Lambda)):
+            for node in ast.walk(function):
+                if isinstance(node, ast.arg):
+                    names.append(node.arg)
+                elif isinstance(node, ast.Name) and isinstance(node.ctx, ast.Store):
+                    names.append(node.id)
+                elif isinstance(node, ast.FunctionDef) and node is not function:
+                    names.append(node.name)
+    return names
 
 
 class TestFiles(unittest.TestCase):
@@ -56,11 +84,47 @@ class TestFiles(unittest.TestCase):
             used = {node.id for node in ast.walk(tree) if isinstance(node, ast.Name)}
             for node in tree.body:
                 if isinstance(node, ast.ImportFrom) and node.module.startswith("aheadbehind."):
-                    source = ast.parse(texts[node.module.split(".")[1] + ".py"])
-                    defined = {item.name for item in source.body if isinstance(item, (ast.FunctionDef, ast.ClassDef))}
+                    defined = own_names(ast.parse(texts[node.module.split(".")[1] + ".py"]))
                     for alias in node.names:
                         self.assertIn(alias.name, defined, name)
                         self.assertIn(alias.name, used, name)
+
+
+    def test_inner_names_are_no_names_of_imports_classes_and_builtins(self):
+        for name, text in files():
+            tree = ast.parse(text)
+            taken = set(imported_names(tree)) | {item.name for item in tree.body if isinstance(item, ast.ClassDef)}
+            for inner in inner_names(tree):
+                self.assertNotIn(inner, taken, name)
+                # Running examples keeps the last value as _ among the builtins.
+                self.assertFalse(inner != "_" and hasattr(builtins, inner), f"{name} {inner}")
+
+    def test_no_two_files_import_from_each_other(self):
+        sources = {name: set(imported_names(ast.parse(text)).values()) for name, text in files()}
+        while sources:
+            free = [name for name, needed in sources.items() if not needed & set(sources)]
+            self.assertTrue(free, sources)
+            for name in free:
+                del sources[name]
+
+    def test_properties_have_names_of_their_own(self):
+        properties, others = set(), set()
+        for name, text in files():
+            for node in ast.walk(ast.parse(text)):
+                if isinstance(node, ast.ClassDef):
+                    for item in node.body:
+                        if isinstance(item, ast.FunctionDef):
+                            marks = [mark.id for mark in item.decorator_list if isinstance(mark, ast.Name)]
+                            (properties if "property" in marks else others).add(item.name)
+                        elif isinstance(item, ast.Assign):
+                            others.add(item.targets[0].id)
+        self.assertEqual(properties & others, set())
+
+    def test_no_literal_float_and_no_division(self):
+        for name, text in files():
+            for node in ast.walk(ast.parse(text)):
+                self.assertFalse(isinstance(node, ast.Div), name)
+                self.assertFalse(isinstance(node, ast.Constant) and isinstance(node.value, float), name)
 
 
 class TestInterface(unittest.TestCase):
@@ -86,5 +150,37 @@ class TestInterface(unittest.TestCase):
             "__iter__": "self", "__add__": "self, other", "__radd__": "self, other", "__sub__": "self, other",
             "__eq__": "self, other", "__repr__": "self",
         }
-        for name, wanted in methods.items():
-            self.assertEqual(self.parameters("boxes.py", "Box." + name), wanted)
+        self.check("boxes.py", methods, "Box.")
+
+    def check(self, file, wanted, owner=""):
+        for name, parameters in wanted.items():
+            self.assertEqual(self.parameters(file, owner + name), parameters, name)
+
+    def test_stage_2(self):
+        self.check("rows.py", {
+            "behind": "box, row", "behind_of": "box, some, row", "ahead": "box, row", "ahead_of": "box, some, row",
+            "gives": "box, row", "next_signs": "box, row", "walk": "box, row", "is_walk": "box, row, value",
+            "walks": "box, row", "walk_count": "box, row", "row_to": "box, state", "rows": "box", "row_count": "box, size",
+        })
+
+    def test_stage_3(self):
+        self.check("standing.py", {
+            "stands_for": "one, other", "missing_row": "one, other", "is_missing": "one, other, value",
+            "missing_count": "one, other, size", "are_alike": "one, other", "parting_row": "one, other",
+        })
+        self.check("forms.py", {"form": "box", "sets_box": "box", "classes": "boxes"})
+
+    def test_stage_4(self):
+        self.check("matchings.py", {
+            "__init__": "self, one, other, pairs", "all_pairs": "one, other", "one": "self", "other": "self",
+            "pairs": "self", "partners": "self, state", "is_part_of": "self, further", "__len__": "self",
+            "__contains__": "self, x", "__eq__": "self, other", "__or__": "self, other", "__rshift__": "self, other",
+            "__repr__": "self",
+        }, "Matching.")
+        for owner in ("Forward.", "Backward.", "Both."):
+            self.check("matchings.py", {"__init__": "self, one, other, pairs", "greatest": "cls, one, other"}, owner)
+        self.check("matchings.py", {
+            "forward_kept": "one, other", "backward_kept": "one, other", "forward_falls": "one, other",
+            "backward_falls": "one, other", "are_forward_falls": "one, other, value",
+            "are_backward_falls": "one, other, value",
+        })

@@ -1,6 +1,7 @@
 """Values of unlike kinds that the tests pass where something else is asked for."""
 
-from aheadbehind.boxes import Box
+from aheadbehind.basics import is_integer, is_sign
+from aheadbehind.boxes import Box, made_box
 
 MOST_DIGITS = 10 ** 30 - 1
 
@@ -62,3 +63,56 @@ def parts(box):
     """All that a box tells of its parts, to see that it did not change."""
     inner = [box[state] for state in range(box.states)]
     return box.states, box.starts(), box.steps(), box.reachable(), inner, len(box), repr(box)
+
+
+def wrong_lists(good, is_right):
+    """Tuples (list, position): lists with one wrong element at each place of the good ones; no lists at all, None."""
+    wrong = [(value, None) for value in unlike_values() if not isinstance(value, (list, tuple))]
+    for value in unlike_values():
+        if not is_right(value):
+            for place in range(len(good) + 1):
+                values = good[:place] + [value] + good[place:]
+                wrong.append((values, place))
+                wrong.append((tuple(values), place))
+    return wrong
+
+
+def wrong_rows():
+    """Tuples (row, position) of values that are no rows, and what InvalidRow tells of them."""
+    return wrong_lists([("flip", "ok"), ("look", "head")], is_sign) + [
+        ([("flip", True)], 0), ([("flip", "ok"), ["look", "head"]], 1), ([("flip", "ok", "ok")], 0), ([("flip",)], 0),
+        ([("flip", "ok"), None, 0], 1), (iter([("flip", "ok")]), None), ({("flip", "ok"): 1}, None),
+    ]
+
+
+def wrong_states(states):
+    """Values that are no states of a box with so many."""
+    return [value for value in unlike_values() if not is_integer(value) or not 0 <= value < states] + [-1, states]
+
+
+def wrong_somes(states):
+    """Values that are no lists of unlike states of a box with so many, at least three."""
+    wrong = [values for values, _ in wrong_lists([0, 2], lambda value: is_integer(value) and 0 <= value < states)]
+    return wrong + [[0, 0], [2, 1, 2], (1, 1), [states], [-1], [0, states], [False], [1, True], iter([0]), {0: 1}]
+
+
+def wrong_kinds():
+    """Values that are neither of the two kinds."""
+    words = ["Remembering", "remembering ", "guess", "remembered", "guessing\n", "both", b"guessing"]
+    return unlike_values() + words + [["guessing"], ("remembering",), {"guessing": 1}]
+
+
+def wrong_numbers(least, most):
+    """Values that are no integers from the least to the most one."""
+    wrong = [value for value in unlike_values() if not is_integer(value) or not least <= value <= most]
+    return wrong + [least - 1, most + 1, str(least), [least], (most,)]
+
+
+def wide(states, starts=(0,), steps=()):
+    """A box as the package makes them, with any number of states and steps."""
+    return made_box(states, list(starts), list(steps))
+
+
+def ring(states):
+    """A box without limits that goes round all its states with one sign."""
+    return wide(states, [0], [(state, "go", "ok", (state + 1) % states) for state in range(states)])

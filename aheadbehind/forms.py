@@ -63,8 +63,6 @@ def finer_numbers(moves, numbers):
 
 def classes(boxes):
     """The lists of the positions of the boxes that are alike, in the sequence of their first ones."""
-    for box in boxes:
-        check_limited(box)
     found = {}
     for position, box in enumerate(boxes):
         least = form(box)

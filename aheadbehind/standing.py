@@ -51,15 +51,11 @@ def missing_count(one, other, size):
 
 def are_alike(one, other):
     """Whether each of both stands for the other one."""
-    check_limited(one)
-    check_limited(other)
-    return stands_for(one, other) and stands_for(other, one)
+    return parting_row(one, other) is None
 
 
 def parting_row(one, other):
     """The shortest row that just one of both gives, of these the least; None if there is none."""
-    check_limited(one)
-    check_limited(other)
     found = [row for row in [missing_row(one, other), missing_row(other, one)] if row is not None]
     if not found:
         return None

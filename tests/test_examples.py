@@ -4,6 +4,7 @@ import doctest
 import unittest
 
 from aheadbehind.boxes import Box
+from aheadbehind.fans import Fan
 from aheadbehind.matchings import Matching
 
 STAGE_1 = '''
@@ -46,7 +47,27 @@ STAGE_4 = '''
 [True, False]
 '''
 
-STAGES = [(STAGE_1, 5), (STAGE_2, 4), (STAGE_3, 4), (STAGE_4, 5)]
+STAGE_5 = '''
+>>> from aheadbehind.fans import Fan, Guessing, Remembering
+>>> [Remembering.thin(late, early), Guessing.thin(late, early).sets()]
+[Remembering({0: [(0,)], 1: [(1, 2)], 2: [(3,)]}), {0: [(0,)], 1: [(1,), (2,)], 2: [(0, 1, 2, 3)]}]
+>>> [Remembering.least_girth(late, early), Guessing.least_girth(late, early), Guessing.of_singles(Backward.greatest(late, early))[1]]
+[2, 1, [(1,), (2,)]]
+'''
+
+STAGE_6 = '''
+>>> from aheadbehind.families import least_families, least_size
+>>> from aheadbehind.looks import foreseeing, least_look
+>>> from aheadbehind.middles import is_middle, middle
+>>> middle(Remembering.thin(late, early)) == (late, [(0, 0), (1, 1), (2, 2)], [(0, 0), (1, 1), (1, 2), (2, 3)])
+True
+>>> [least_families(late, early, "remembering"), least_size(late, early, "guessing")]
+[[[(0,), (1, 2), (3,)]], None]
+>>> [least_look(late, early, "remembering"), least_look(late, early, "guessing"), foreseeing(Box(1, [0], [(0, "go", "ok", 0)]), 1)]
+[0, 1, (Box(2, [0, 1], [(1, 'go', 'ok', 0), (1, 'go', 'ok', 1)]), [(0, ()), (0, (('go', 'ok'),))])]
+'''
+
+STAGES = [(STAGE_1, 5), (STAGE_2, 4), (STAGE_3, 4), (STAGE_4, 5), (STAGE_5, 3), (STAGE_6, 6)]
 
 
 class TestExamples(unittest.TestCase):
@@ -66,3 +87,4 @@ class TestExamples(unittest.TestCase):
         box = Box(1, [0])
         self.assertEqual(repr(Box(2, [0], [(0, "go", "ok", 1)])), "Box(2, [0], [(0, 'go', 'ok', 1)])")
         self.assertEqual(repr(Matching(box, box, [(0, 0)])), "Matching([(0, 0)])")
+        self.assertEqual(repr(Fan(box, box, {0: [(0,)]})), "Fan({0: [(0,)]})")

@@ -184,3 +184,29 @@ class TestInterface(unittest.TestCase):
             "backward_falls": "one, other", "are_forward_falls": "one, other, value",
             "are_backward_falls": "one, other, value",
         })
+
+    def test_stage_5(self):
+        self.check("fans.py", {
+            "__init__": "self, one, other, sets", "one": "self", "other": "self", "girth": "self", "sets": "self",
+            "unlike": "self", "is_part_of": "self, further", "__getitem__": "self, at", "__len__": "self",
+            "__contains__": "self, x", "__eq__": "self, other", "__or__": "self, other", "__repr__": "self",
+        }, "Fan.")
+        for owner in ("Remembering.", "Guessing."):
+            self.check("fans.py", {
+                "__init__": "self, one, other, sets", "built": "cls, one, other", "thin": "cls, one, other",
+                "of_singles": "cls, matching", "of_partners": "cls, matching", "least_girth": "cls, one, other",
+                "greatest": "cls, one, other, *, girth", "falls": "cls, one, other, *, girth",
+                "are_falls": "cls, one, other, value, *, girth",
+            }, owner)
+
+    def test_stage_6(self):
+        self.check("middles.py", {
+            "middle": "fan", "is_middle": "one, other, kind, value", "fan_of": "one, other, kind, value",
+        })
+        self.check("families.py", {
+            "serves": "one, other, kind, value", "family_box": "other, kind, family", "least_size": "one, other, kind",
+            "least_families": "one, other, kind",
+        })
+        self.check("looks.py", {
+            "recalling": "box, number", "foreseeing": "box, number", "least_look": "one, other, kind",
+        })

@@ -141,7 +141,9 @@ class TestLimits(Refusals):
 
     def test_the_one_is_limited_in_some(self):
         for deed in (are_alike, parting_row):
-            self.refuse(TooMany, ["states", 7], deed, ring(8), ring(2))
+            for other in (ring(2), line(2), Box(1, [0])):
+                self.refuse(TooMany, ["states", 7], deed, ring(8), other)
+                self.refuse(TooMany, ["states", 7], deed, other, ring(8))
         self.refuse(TooMany, ["states", 7], missing_count, ring(8), ring(2), 0)
         self.assertEqual((stands_for(ring(8), ring(2)), missing_row(ring(8), ring(2))), (True, None))
         self.assertEqual(missing_count(ring(7), ring(7), 200), 0)

@@ -93,7 +93,6 @@ def check_few_steps(box):
 def least_look(one, other, kind):
     """The least number of signs, at most 2, that must be recalled or foreseen for a plain matching; None."""
     check_kind(kind)
-    check_few_steps(one)
     for number in range(MOST_SIGNS + 1):
         if kind == REMEMBERING:
             falls = backward_falls(recalling(one, number)[0], other)

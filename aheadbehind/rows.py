@@ -222,7 +222,8 @@ def row_count(box, size):
     def moves(states):
         return [ends for ends in [led(ways, states, sign) for sign in signs] if ends]
 
-    return sum(path_counts(tuple(box.starts()), moves, size).values())
+    counts = path_counts(tuple(box.starts()), moves, size)
+    return sum(counts.values())
 
 
 def path_counts(start, moves, size):

@@ -12,14 +12,8 @@ class Box:
     MOST_STEPS = 24
 
     def __init__(self, states, starts, steps=()):
-        if not is_integer(states) or states < 1:
-            raise InvalidStates(states)
-        check_starts(states, starts)
-        check_steps(states, steps)
-        if states > Box.MOST_STATES:
-            raise TooMany("states", Box.MOST_STATES)
-        if len(steps) > Box.MOST_STEPS:
-            raise TooMany("steps", Box.MOST_STEPS)
+        check_parts(states, starts, steps)
+        check_limits(states, steps)
         self._states = states
         self._starts = sorted(starts)
         self._steps = sorted(steps)
@@ -71,16 +65,7 @@ class Box:
 
     def reachable(self):
         """The sorted list of the states to which steps, perhaps none, lead from a start."""
-        ends = ends_of(self._steps)
-        found = {start: True for start in self._starts}
-        waiting = list(self._starts)
-        while waiting:
-            state = waiting.pop()
-            for to in ends.get(state, []):
-                if to not in found:
-                    found[to] = True
-                    waiting.append(to)
-        return sorted(found)
+        return reached(ends_of(self._steps), self._starts)
 
     def steps_from(self, state):
         """The sorted list of the steps from this state."""
@@ -158,6 +143,22 @@ class Box:
         return f"Box({self._states}, {self._starts}, {self._steps})"
 
 
+def check_parts(states, starts, steps):
+    """Raise an error unless these are the parts of a box with any number of states and steps."""
+    if not is_integer(states) or states < 1:
+        raise InvalidStates(states)
+    check_starts(states, starts)
+    check_steps(states, steps)
+
+
+def check_limits(states, steps):
+    """Raise TooMany if there are more states or steps than a caller may give a box."""
+    if states > Box.MOST_STATES:
+        raise TooMany("states", Box.MOST_STATES)
+    if len(steps) > Box.MOST_STEPS:
+        raise TooMany("steps", Box.MOST_STEPS)
+
+
 def check_starts(states, starts):
     """Raise InvalidStarts unless starts is a list of unlike states, with one at least."""
     if not is_list(starts) or len(starts) == 0:
@@ -192,12 +193,25 @@ def is_order(states, value):
     return first_wrong(value, [is_state(states, state) for state in value]) is None
 
 
-def ends_of(steps):
-    """The dict from the states to the lists of the states to which steps lead from there."""
+def ends_of(links):
+    """The dict from the states to the lists of the states to which links lead: tuples from one state to the last."""
     ends = {}
-    for step in steps:
-        ends.setdefault(step[0], []).append(step[3])
+    for link in links:
+        ends.setdefault(link[0], []).append(link[-1])
     return ends
+
+
+def reached(ends, states):
+    """The sorted list of these states and those to which the ends of the states lead from them."""
+    found = {state: True for state in states}
+    waiting = list(states)
+    while waiting:
+        state = waiting.pop()
+        for to in ends.get(state, []):
+            if to not in found:
+                found[to] = True
+                waiting.append(to)
+    return sorted(found)
 
 
 def made_box(states, starts, steps):

@@ -1,7 +1,9 @@
 """Checks of what is passed, for parameters that several functions have."""
 
-from aheadbehind.basics import is_integer, is_list, is_sign, is_state
-from aheadbehind.errors import InvalidKind, InvalidNumber, InvalidRow, InvalidSet, InvalidState, TooMany
+from aheadbehind.basics import is_integer, is_list, is_name, is_sign, is_state
+from aheadbehind.errors import (
+    InvalidCalls, InvalidKind, InvalidNumber, InvalidRow, InvalidSet, InvalidState, TooMany,
+)
 
 REMEMBERING = "remembering"
 GUESSING = "guessing"
@@ -42,10 +44,24 @@ def check_some(states, some):
         raise InvalidSet(some)
 
 
+def is_kind(value):
+    """Whether any value is one of the two words."""
+    return isinstance(value, str) and value in (REMEMBERING, GUESSING)
+
+
 def check_kind(kind):
     """Raise InvalidKind unless kind is one of the two words."""
-    if not isinstance(kind, str) or kind not in (REMEMBERING, GUESSING):
+    if not is_kind(kind):
         raise InvalidKind(kind)
+
+
+def check_calls(calls):
+    """Raise InvalidCalls unless calls is a list of unlike names."""
+    if not is_list(calls):
+        raise InvalidCalls(None)
+    position = first_wrong(calls, [is_name(call) for call in calls])
+    if position is not None:
+        raise InvalidCalls(position)
 
 
 def check_number(number, least, most):
@@ -58,6 +74,12 @@ def check_few_states(box, most):
     """Raise TooMany if the box has more than so many states."""
     if box.states > most:
         raise TooMany("states", most)
+
+
+def check_few_steps(box, most):
+    """Raise TooMany if the box has more than so many steps."""
+    if len(box) > most:
+        raise TooMany("steps", most)
 
 
 def check_limited(box):

@@ -213,6 +213,15 @@ def are_sets(one, other, value):
     return all([are_unlike_sets(other, sets) for sets in value.values()])
 
 
+def is_fan(kind, one, other, value):
+    """Whether any value is the dict of the sets of a fan of the kind."""
+    if not are_sets(one, other, value):
+        return False
+    rule = Rule(kind, one, other)
+    members = [(state, chosen) for state in value for chosen in value[state]]
+    return not broken_sets(rule, members) and not lacks_member(rule, members)
+
+
 def check_like(fan, further):
     """Raise InvalidFan unless the further fan is of the same class with equal boxes."""
     if not is_like(fan, further):
@@ -292,7 +301,7 @@ def least_girth_of(kind, one, other):
     check_standing(one, other)
     girth = 1
     while settled_sets(kind, one, other, girth)[0] is None:
-        girth += 1
+        girth = girth + 1
     return girth
 
 

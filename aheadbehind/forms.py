@@ -8,31 +8,48 @@ from aheadbehind.rows import led, ways_on
 def form(box):
     """The sure box alike to this one with the fewest states, numbered by their first rows."""
     sure, _ = sets_box(box)
-    numbers = merged_numbers(sure)
-    steps = [(numbers[state], call, answer, numbers[to]) for state, call, answer, to in sure.steps()]
-    return made_box(max(numbers) + 1, [0], steps)
+    return merged(sure)
 
 
 def sets_box(box):
     """The sure box of the sets of states behind the starts by rows, and the list of these sets."""
     check_limited(box)
     ways = ways_on(box)
-    signs = box.signs()
-    sets = [tuple(box.starts())]
-    numbers = {sets[0]: 0}
+
+    def lead(chosen, sign):
+        ends = led(ways, chosen, sign)
+        return ends if ends else None
+
+    return sure_box(tuple(box.starts()), box.signs(), lead)
+
+
+def sure_box(start, signs, lead):
+    """The sure box of the nodes to which these sorted signs lead from the start, and the list of the nodes.
+
+    Told lead(node, sign) is the node behind another one by a sign, None if there is none. The nodes are numbered
+    by their first rows: those that were met earlier and lesser signs are taken first.
+    """
+    nodes = [start]
+    numbers = {start: 0}
     steps = []
     at = 0
-    # Sets that were met earlier and lesser signs are taken first, so each set is first met by its first row.
-    while at < len(sets):
-        for sign in signs:
-            ends = led(ways, sets[at], sign)
-            if ends:
-                if ends not in numbers:
-                    numbers[ends] = len(sets)
-                    sets.append(ends)
-                steps.append((at, *sign, numbers[ends]))
-        at += 1
-    return made_box(len(sets), [0], steps), sets
+    while at < len(nodes):
+        for call, answer in signs:
+            to = lead(nodes[at], (call, answer))
+            if to is not None:
+                if to not in numbers:
+                    numbers[to] = len(nodes)
+                    nodes.append(to)
+                steps.append((at, call, answer, numbers[to]))
+        at = at + 1
+    return made_box(len(nodes), [0], steps), nodes
+
+
+def merged(sure):
+    """The form of a sure box whose states are numbered by their first rows."""
+    numbers = merged_numbers(sure)
+    steps = [(numbers[state], call, answer, numbers[to]) for state, call, answer, to in sure.steps()]
+    return made_box(max(numbers) + 1, [0], steps)
 
 
 def merged_numbers(sure):

@@ -1,8 +1,7 @@
 """Looks: a box that recalls the last signs, or foresees the next ones."""
 
 from aheadbehind.boxes import made_box
-from aheadbehind.checks import REMEMBERING, check_kind, check_number
-from aheadbehind.errors import TooMany
+from aheadbehind.checks import REMEMBERING, check_few_steps, check_kind, check_number
 from aheadbehind.matchings import backward_falls, forward_falls
 from aheadbehind.rows import longer_rows, ways_on
 
@@ -13,7 +12,7 @@ MOST_LOOK_STEPS = 8
 def recalling(box, number):
     """The box recalling so many signs, and the list of the tuples (state, signs) that its states are."""
     check_number(number, 0, MOST_SIGNS)
-    check_few_steps(box)
+    check_few_steps(box, MOST_LOOK_STEPS)
     if number == 0:
         return box, plain_looks(box)
     starts = [(start, ()) for start in box.starts()]
@@ -34,7 +33,7 @@ def recalling(box, number):
 def foreseeing(box, number):
     """The box foreseeing so many signs, and the list of the tuples (state, signs) that its states are."""
     check_number(number, 0, MOST_SIGNS)
-    check_few_steps(box)
+    check_few_steps(box, MOST_LOOK_STEPS)
     if number == 0:
         return box, plain_looks(box)
     futures = {state: rows_from(box, state, number) for state in box.reachable()}
@@ -82,12 +81,6 @@ def look_box(looks, starts, links):
     numbers = {look: number for number, look in enumerate(looks)}
     steps = [(numbers[look], call, answer, numbers[to]) for look, call, answer, to in links]
     return made_box(len(looks), [numbers[start] for start in starts], steps), looks
-
-
-def check_few_steps(box):
-    """Raise TooMany if the box has more steps than one whose signs are recalled or foreseen."""
-    if len(box) > MOST_LOOK_STEPS:
-        raise TooMany("steps", MOST_LOOK_STEPS)
 
 
 def least_look(one, other, kind):

@@ -1,9 +1,9 @@
 """Standing for: whether one box gives only what another one gives, and the rows that tell that it does not."""
 
-from aheadbehind.basics import is_row
+from aheadbehind.basics import is_list, is_row
 from aheadbehind.checks import check_limited, check_number
 from aheadbehind.errors import NotStanding
-from aheadbehind.rows import MOST_SIZE, first_row, gives, led, path_counts, ways_on
+from aheadbehind.rows import MOST_SIZE, first_row, gives, is_walk, led, path_counts, walk, ways_on
 
 
 def stands_for(one, other):
@@ -29,6 +29,20 @@ def missing_row(one, other):
 def is_missing(one, other, value):
     """Whether any value is a row that the one gives and the other does not."""
     return is_row(value) and gives(one, value) and not gives(other, value)
+
+
+def missing_walk(one, other):
+    """A walk of the one with the missing row; None if there is none."""
+    row = missing_row(one, other)
+    return None if row is None else walk(one, row)
+
+
+def is_missing_walk(one, other, value):
+    """Whether any value is a walk of the one whose row the other does not give."""
+    if not is_list(value) or not all([step in one for step in value]):
+        return False
+    row = [step[1:3] for step in value]
+    return is_walk(one, row, value) and not gives(other, row)
 
 
 def missing_count(one, other, size):

@@ -6,6 +6,7 @@ import unittest
 from aheadbehind.boxes import Box
 from aheadbehind.fans import Fan
 from aheadbehind.matchings import Matching
+from aheadbehind.muffled import Muffled
 
 STAGE_1 = '''
 >>> from aheadbehind.boxes import Box
@@ -67,7 +68,31 @@ True
 [0, 1, (Box(2, [0, 1], [(1, 'go', 'ok', 0), (1, 'go', 'ok', 1)]), [(0, ()), (0, (('go', 'ok'),))])]
 '''
 
-STAGES = [(STAGE_1, 5), (STAGE_2, 4), (STAGE_3, 4), (STAGE_4, 5), (STAGE_5, 3), (STAGE_6, 6)]
+STAGE_7 = '''
+>>> from aheadbehind.muffled import Muffled, stands
+>>> from aheadbehind.together import beside, in_step
+>>> shy = Muffled(2, [0], [(0, "go", "ok", 0)], [(0, 1)])
+>>> [shy.plain(), shy.firm(["go"]), Muffled(1, [0], [], [(0, 0)]).awake(["go"])]
+[Box(2, [0, 1], [(0, 'go', 'ok', 0), (0, 'go', 'ok', 1)]), Box(2, [0, 1], [(0, 'go', 'no', 1), (0, 'go', 'ok', 0), (0, 'go', 'ok', 1), (1, 'go', 'no', 1)]), Box(2, [0], [(0, 'go', 'ever', 1)])]
+>>> sure = Muffled(1, [0], [(0, "go", "ok", 0)])
+>>> [stands(shy, sure, "plain", ["go"]), stands(shy, sure, "firm", ["go"]), stands(sure, shy, "firm", ["go"])]
+[True, False, True]
+>>> beside(Box(1, [0], [(0, "a", "r", 0)]), Box(2, [0], [(0, "b", "r", 1)]))
+Box(2, [0], [(0, 'a', 'r', 0), (0, 'b', 'r', 1), (1, 'a', 'r', 1)])
+'''
+
+STAGE_8 = '''
+>>> from aheadbehind.changes import fewest_left_out, leave_outs
+>>> from aheadbehind.parts import room
+>>> leave_outs(early, late - (1, "look", "tail", 2))
+[[(0, 'flip', 'ok', 2)], [(2, 'look', 'tail', 3)]]
+>>> room(Box(1, [0], [(0, "go", "ok", 0)]), Box(2, [0], [(0, "go", "ok", 1)]), [("go", "ok"), ("off", "ok")])
+Box(3, [0], [(0, 'go', 'ok', 1), (0, 'off', 'ok', 2), (1, 'off', 'ok', 2), (2, 'go', 'ok', 2), (2, 'off', 'ok', 2)])
+'''
+
+STAGES = [
+    (STAGE_1, 5), (STAGE_2, 4), (STAGE_3, 4), (STAGE_4, 5), (STAGE_5, 3), (STAGE_6, 6), (STAGE_7, 7), (STAGE_8, 4),
+]
 
 
 class TestExamples(unittest.TestCase):
@@ -88,3 +113,4 @@ class TestExamples(unittest.TestCase):
         self.assertEqual(repr(Box(2, [0], [(0, "go", "ok", 1)])), "Box(2, [0], [(0, 'go', 'ok', 1)])")
         self.assertEqual(repr(Matching(box, box, [(0, 0)])), "Matching([(0, 0)])")
         self.assertEqual(repr(Fan(box, box, {0: [(0,)]})), "Fan({0: [(0,)]})")
+        self.assertEqual(repr(Muffled(2, [0], [], [(0, 1)])), "Muffled(2, [0], [], [(0, 1)])")

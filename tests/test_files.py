@@ -210,3 +210,25 @@ class TestInterface(unittest.TestCase):
         self.check("looks.py", {
             "recalling": "box, number", "foreseeing": "box, number", "least_look": "one, other, kind",
         })
+
+    def test_stage_7(self):
+        self.check("muffled.py", {
+            "__init__": "self, states, starts, steps, hidden=()", "of": "cls, box, calls", "bare": "self",
+            "hidden": "self", "moves": "self, state", "refused": "self, state", "endless": "self", "plain": "self",
+            "firm": "self, calls", "awake": "self, calls", "wary": "self, calls", "__eq__": "self, other",
+            "__repr__": "self",
+        }, "Muffled.")
+        self.check("muffled.py", {
+            "stands": "one, other, reading, calls", "missing": "one, other, reading, calls",
+        })
+        self.check("together.py", {
+            "beside": "one, other", "in_step": "one, other", "either": "one, other", "named": "box, names",
+            "all_in_step": "*boxes",
+        })
+
+    def test_stage_8(self):
+        self.check("parts.py", {"room": "helper, whole, signs"})
+        self.check("changes.py", {
+            "fewest_left_out": "one, other", "leave_outs": "one, other", "tree": "one, other, depth",
+            "is_tree": "one, other, depth, value",
+        })

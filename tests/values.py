@@ -1,6 +1,6 @@
 """Values of unlike kinds that the tests pass where something else is asked for."""
 
-from aheadbehind.basics import is_integer, is_sign
+from aheadbehind.basics import is_integer, is_name, is_sign
 from aheadbehind.boxes import Box, made_box
 
 MOST_DIGITS = 10 ** 30 - 1
@@ -82,6 +82,14 @@ def wrong_rows():
     return wrong_lists([("flip", "ok"), ("look", "head")], is_sign) + [
         ([("flip", True)], 0), ([("flip", "ok"), ["look", "head"]], 1), ([("flip", "ok", "ok")], 0), ([("flip",)], 0),
         ([("flip", "ok"), None, 0], 1), (iter([("flip", "ok")]), None), ({("flip", "ok"): 1}, None),
+    ]
+
+
+def wrong_calls():
+    """Tuples (calls, position) of values that are no lists of unlike calls, and what InvalidCalls tells of them."""
+    return wrong_lists(["stop", "wait"], is_name) + [
+        (["go", "go"], 1), (("go", "stop", "go"), 2), (["a", "b", "b", "a"], 2), ([b"go"], 0), (["go", None, 0], 1),
+        (["go", ("go",)], 1), (iter(["go"]), None), ({"go": 1}, None), ("go", None), ([EqualToAll(), "go"], 0),
     ]
 
 

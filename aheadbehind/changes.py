@@ -1,6 +1,6 @@
 """Changes: the fewest steps of a box to leave out so that it stands for another one, and trees that show it."""
 
-from aheadbehind.checks import check_few_steps, check_limited, check_number
+from aheadbehind.checks import check_few_steps, check_number
 from aheadbehind.standing import is_missing_walk, missing_walk
 
 MOST_CHANGED_STEPS = 12
@@ -16,7 +16,7 @@ def fewest_left_out(one, other):
 
 def leave_outs(one, other):
     """The sorted list of all leave-outs of the fewest number of steps; empty if it is more than 3."""
-    check_changed(one, other)
+    check_few_steps(one, MOST_CHANGED_STEPS)
     for number in range(MOST_LEFT_OUT + 1):
         found = leave_outs_of(one, other, number)
         if found:
@@ -43,8 +43,8 @@ def leave_outs_of(one, other, number):
 
 def tree(one, other, depth):
     """A tree of this depth, which shows that more steps must be left out; None if there is none."""
-    check_depth(depth)
-    check_changed(one, other)
+    check_number(depth, 0, MOST_DEPTH)
+    check_few_steps(one, MOST_CHANGED_STEPS)
     return grown_tree(one, other, depth)
 
 
@@ -62,7 +62,7 @@ def grown_tree(one, other, depth):
 
 def is_tree(one, other, depth, value):
     """Whether any value is a tree of this depth."""
-    check_depth(depth)
+    check_number(depth, 0, MOST_DEPTH)
     return shows_more(one, other, depth, value)
 
 
@@ -79,14 +79,3 @@ def shows_more(one, other, depth, value):
     if not all([step in one for step in branches]) or sorted(branches) != sorted(set(walked)):
         return False
     return all([shows_more(one - step, other, depth - 1, branch) for step, branch in branches.items()])
-
-
-def check_depth(depth):
-    """Raise InvalidNumber unless depth is one that a tree can have."""
-    check_number(depth, 0, MOST_DEPTH)
-
-
-def check_changed(one, other):
-    """Raise TooMany if the one has too many steps, or the other too many states."""
-    check_few_steps(one, MOST_CHANGED_STEPS)
-    check_limited(other)

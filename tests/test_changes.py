@@ -123,16 +123,17 @@ class TestTree(Refusals):
                 self.assertIs(is_tree(fork(count), quiet(), depth, found), count > depth)
 
     def test_the_keys_are_sorted_and_each_step_of_the_walk_once(self):
-        one = Box(2, [1], [(1, "go", "ok", 0), (0, "go", "ok", 1), (1, "up", "ok", 1)])
-        walk, branches = tree(one, chain(3), 1)
-        self.assertEqual(list(branches), sorted(set(walk)))
-        both = Box(2, [0], [(0, "go", "ok", 1), (1, "go", "ok", 0), (1, "up", "ok", 0)])
-        walk, branches = tree(both, quiet(), 0)
-        self.assertEqual((walk, branches), ([(0, "go", "ok", 1)], {}))
-        twice = Box(2, [0], [(0, "go", "ok", 1), (1, "go", "ok", 0), (0, "go", "ok", 0)])
-        walk, branches = tree(twice, chain(3), 1)
-        self.assertEqual(list(branches), sorted(set(walk)))
-        self.assertEqual(len(walk), 4)
+        back = chain(6).numbered([6, 5, 4, 3, 2, 1, 0])
+        walk, branches = tree(back, chain(5), 0)
+        self.assertEqual((walk, branches), (back.steps()[::-1], {}))
+        first, second = [12, 11, 10, 9, 8, 7, 6], [12, 5, 4, 3, 2, 1, 0]
+        two = wide(13, [12], [(a, "go", "ok", b) for ends in (first, second) for a, b in zip(ends, ends[1:])])
+        walk, branches = tree(two, chain(5), 1)
+        self.assertEqual((len(branches), list(branches)), (6, walk[::-1]))
+        turns = Box(3, [2], [(2, "go", "ok", 1), (1, "go", "ok", 0), (0, "go", "ok", 2), (2, "go", "ok", 0), (0, "go", "ok", 0)])
+        walk, branches = tree(turns, chain(5), 1)
+        self.assertEqual((len(walk), list(branches)), (6, sorted(set(walk))))
+        self.assertTrue(1 < len(branches) < 6)
 
     def test_depths_that_are_none(self):
         for value in wrong_numbers(0, 2):

@@ -64,3 +64,13 @@ def least_families(one, other, kind):
 def longer_families(families, sets):
     """The sorted families with one of the sets more, a greater one than all others."""
     return [[*family, chosen] for family in families for chosen in sets if not family or family[-1] < chosen]
+
+
+def family_middle(one, other, kind, family):
+    """The middle of the kind that has the box of a family that serves between both boxes."""
+    box = family_box(other, kind, family)
+    sets = sorted(family)
+    members, _ = settle_sets(kind, one, other, sets)
+    pairs = [(state, sets.index(chosen)) for state, chosen in members]
+    further = [(number, far) for number in box.reachable() for far in sets[number]]
+    return box, pairs, further

@@ -83,15 +83,34 @@ Box(2, [0], [(0, 'a', 'r', 0), (0, 'b', 'r', 1), (1, 'a', 'r', 1)])
 
 STAGE_8 = '''
 >>> from aheadbehind.changes import fewest_left_out, leave_outs
+>>> from aheadbehind.listener import Listener
 >>> from aheadbehind.parts import room
 >>> leave_outs(early, late - (1, "look", "tail", 2))
 [[(0, 'flip', 'ok', 2)], [(2, 'look', 'tail', 3)]]
+>>> ear = Listener(early)
+>>> [ear("flip", "ok"), ear.answers("look"), ear("look", "tail"), ear.at(1), ear.row]
+[[1, 2], ['head', 'tail'], [3], [2], [('flip', 'ok'), ('look', 'tail')]]
 >>> room(Box(1, [0], [(0, "go", "ok", 0)]), Box(2, [0], [(0, "go", "ok", 1)]), [("go", "ok"), ("off", "ok")])
 Box(3, [0], [(0, 'go', 'ok', 1), (0, 'off', 'ok', 2), (1, 'off', 'ok', 2), (2, 'go', 'ok', 2), (2, 'off', 'ok', 2)])
 '''
 
+STAGE_9 = '''
+>>> from aheadbehind.judge import is_paper, is_true
+>>> from aheadbehind.texts import read, text_of
+>>> text_of(late)
+'box 3\\nstart 0\\nstep 0 flip ok 1\\nstep 1 look head 2\\nstep 1 look tail 2\\n'
+>>> claim = {"claim": "girth", "one": late, "other": early, "kind": "remembering", "number": 2}
+>>> [is_true(claim), is_paper(claim, {0: [(0,)], 1: [(1, 2)], 2: [(3,)]}), is_true({"claim": "forward", "one": late, "other": early})]
+[True, True, False]
+>>> from aheadbehind.desk import Desk
+>>> desk = Desk()
+>>> desk.do_all("new late 2", "add late 0 flip ok 1", "new early 3", "add early 0 flip ok 2", "add early 2 look head 2", "stands late early", "stands early late", "girth guessing late early", "cut early 2 look head 2", "alike late early", "undo")
+['ok', '1', 'ok', '1', '2', 'yes', 'no flip ok look head', '1', '1', 'yes', 'cut early 2 look head 2']
+'''
+
 STAGES = [
-    (STAGE_1, 5), (STAGE_2, 4), (STAGE_3, 4), (STAGE_4, 5), (STAGE_5, 3), (STAGE_6, 6), (STAGE_7, 7), (STAGE_8, 4),
+    (STAGE_1, 5), (STAGE_2, 4), (STAGE_3, 4), (STAGE_4, 5), (STAGE_5, 3), (STAGE_6, 6), (STAGE_7, 7), (STAGE_8, 7),
+    (STAGE_9, 8),
 ]
 
 

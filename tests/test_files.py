@@ -114,8 +114,9 @@ class TestFiles(unittest.TestCase):
                 if isinstance(node, ast.ClassDef):
                     for item in node.body:
                         if isinstance(item, ast.FunctionDef):
-                            marks = [mark.id for mark in item.decorator_list if isinstance(mark, ast.Name)]
-                            (properties if "property" in marks else others).add(item.name)
+                            marks = [ast.unparse(mark) for mark in item.decorator_list]
+                            marked = "property" in marks or f"{item.name}.setter" in marks
+                            (properties if marked else others).add(item.name)
                         elif isinstance(item, ast.Assign):
                             others.add(item.targets[0].id)
         self.assertEqual(properties & others, set())
@@ -133,10 +134,14 @@ class TestInterface(unittest.TestCase):
     def parameters(self, file, path):
         body = ast.parse(dict(files())[file]).body
         for part in path.split("."):
-            found = [item for item in body if getattr(item, "name", None) == part]
+            found = [item for item in body if getattr(item, "name", None) == part and not self.is_setter(item)]
             self.assertEqual(len(found), 1, f"{file} {path}")
             body = found[0].body
         return ast.unparse(found[0].args)
+
+    def is_setter(self, item):
+        """Whether it is the second one of the two that make a property which can be set."""
+        return f"{item.name}.setter" in [ast.unparse(mark) for mark in item.decorator_list]
 
     def test_stage_1(self):
         for name in ("is_integer", "is_count", "is_name", "is_sign", "is_row"):
@@ -232,3 +237,25 @@ class TestInterface(unittest.TestCase):
             "fewest_left_out": "one, other", "leave_outs": "one, other", "tree": "one, other, depth",
             "is_tree": "one, other, depth, value",
         })
+        self.check("listener.py", {
+            "__init__": "self, box, row=()", "box": "self", "row": "self", "begin": "self, row", "__len__": "self",
+            "now": "self", "at": "self, number", "answers": "self, call", "hear": "self, call, answer",
+            "__call__": "self, call, answer", "__iadd__": "self, other", "undo": "self", "trial": "self",
+            "tried": "self, action",
+        }, "Listener.")
+
+    def test_stage_9(self):
+        self.check("texts.py", {"text_of": "value", "read": "text", "packed": "value", "unpacked": "data"})
+        self.check("judge.py", {
+            "is_claim": "value", "is_true": "claim", "is_paper": "claim, value", "paper_for": "claim",
+        })
+        self.check("desk.py", {
+            "__init__": "self", "names": "self", "__len__": "self", "__contains__": "self, x", "__getitem__": "self, at",
+            "__setitem__": "self, at, worth", "do": "self, command", "do_all": "self, *commands", "log": "self",
+            "__call__": "self, command",
+        }, "Desk.")
+
+    def test_the_row_of_a_listener_can_be_set_and_no_other_property(self):
+        setters = [item.name for _, text in files() for item in ast.walk(ast.parse(text))
+                   if isinstance(item, ast.FunctionDef) and self.is_setter(item)]
+        self.assertEqual(setters, ["row"])

@@ -175,8 +175,10 @@ class TestFacts(unittest.TestCase):
         for one, other in zip(plain.some_boxes(30, 251, 2, 4, A), plain.some_boxes(30, 257, 2, 4, A)):
             both, either_of = in_step(one, other), either(one, other)
             rows = plain.rows_up_to(either_of, 4)
-            self.assertEqual(rows, sorted(set(plain.rows_up_to(one, 4) + plain.rows_up_to(other, 4)), key=lambda row: (len(row), row)))
-            self.assertEqual(plain.rows_up_to(both, 4), [row for row in rows if plain.gives(one, row) and plain.gives(other, row)])
+            apart = set(plain.rows_up_to(one, 4) + plain.rows_up_to(other, 4))
+            self.assertEqual(rows, sorted(apart, key=lambda row: (len(row), row)))
+            common = [row for row in rows if plain.gives(one, row) and plain.gives(other, row)]
+            self.assertEqual(plain.rows_up_to(both, 4), common)
         for one, other in zip(plain.some_boxes(30, 263, 2, 4, A), plain.some_boxes(30, 269, 2, 4, B)):
             for row in plain.rows_up_to(beside(one, other), 3):
                 self.assertTrue(plain.gives(one, tuple(sign for sign in row if sign in A)))
